@@ -1,0 +1,1 @@
+"""An agreement between two sides, gone through day by day."""
