@@ -7,6 +7,10 @@ OPEN_CALL = 0
 DAY_CALL = 1
 WAITS_CALL = 2
 CHOOSE_CALL = 3
+BEGIN_CALL = 4
+LEFT_CALL = 5
+PAID_CALL = 6
+UNDO_CALL = 7
 
 
 def answers(calls):
@@ -50,4 +54,12 @@ def answer_to(line, call, numbers, lists):
         return line.waits()
     if call == CHOOSE_CALL:
         return line.choose(numbers[0], numbers[1])
+    if call == BEGIN_CALL:
+        return line.begin(numbers[0])
+    if call == LEFT_CALL:
+        return line.tell_left()
+    if call == PAID_CALL:
+        return line.tell_paid()
+    if call == UNDO_CALL:
+        return line.undo()
     raise UnknownCall(call)

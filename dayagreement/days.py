@@ -106,3 +106,8 @@ def choice_made(agreement, place, which):
     first = part_start(agreement, second - 1)
     part = agreement[first:second] if which == 0 else agreement[second:place]
     return agreement[:first] + part + agreement[place + 1:]
+
+
+def begun(agreement, place):
+    """The agreement with what may be begun in the place of the may."""
+    return agreement[:place] + agreement[place + 1:]

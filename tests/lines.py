@@ -20,6 +20,33 @@ def choose(number, which):
     return [3, 2, number, which, 0]
 
 
+def begin(number):
+    return [4, 1, number, 0]
+
+
+def left():
+    return [5, 0, 0]
+
+
+def paid():
+    return [6, 0, 0]
+
+
+def undo():
+    return [7, 0, 0]
+
+
+def text_of(answer):
+    """The text that left has answered."""
+    assert answer[0] == len(answer) - 1, answer
+    return bytes(answer[1:]).decode()
+
+
+def text_told(text):
+    """What left answers where this is left."""
+    return [len(text)] + list(text.encode())
+
+
 def told(*calls):
     """The answer to each of the calls, handed in as one line."""
     line = [number for call in calls for number in call]

@@ -15,6 +15,11 @@ class AnswersTest(unittest.TestCase):
         self.assertEqual(answers([2, 0, 0]), [1, -9])
         self.assertEqual(answers([3, 2, 0, 0, 0]), [1, -9])
         self.assertEqual(answers([3, 2, 0, 2, 0]), [1, -1])
+        self.assertEqual(answers([4, 1, 0, 0]), [1, -9])
+        self.assertEqual(answers([4, 1, 1000000, 0]), [1, -9])
+        self.assertEqual(answers([5, 0, 0]), [1, -9])
+        self.assertEqual(answers([6, 0, 0]), [1, -9])
+        self.assertEqual(answers([7, 0, 0]), [1, -7])
 
     def test_a_line_with_each_call(self):
         line = (
@@ -24,6 +29,18 @@ class AnswersTest(unittest.TestCase):
         self.assertEqual(answers(line), [
             6, 2, 2, 97, 98, 1, 98, 2, 4, 0, 3, 1, 0, 0, 2, 0, 14, 1, 0, 2, 5, 0,
         ])
+
+    def test_a_line_with_all_eight(self):
+        # Two texts are refused, one at the name that is no agreement, one at its end.
+        line = (
+            [0, 1, 4, 1, 26] + list(b"may 5 pay-a and(pay 1or a)")
+            + [0, 1, 4, 1, 28] + list(b"may 5 pay-a and(pay 1or give") + [5, 0, 0]
+            + [0, 1, 4, 1, 31] + list(b"may 5 pay-a and(pay 1or pay(2))") + [1, 1, 9, 0] + [2, 0, 0] + [3, 2, 1, 1, 0]
+            + [4, 1, 0, 0] + [6, 0, 0] + [7, 0, 0] + [5, 0, 0] + [7, 0, 0] + [5, 0, 0]
+        )
+        self.assertEqual(answers(line), [1, -34, 1, -38, 1, -9, 3, 1, 1, 97, 2, 4, 0, 5, 2, 1, 0, 0, 0, 2, 0, 2]
+                         + [2, 0, -9, 3, 1, 4, -7, 1, 2, 13, 12] + list(b"may 5 pay -a") + [1, 1]
+                         + [34, 33] + list(b"may 5 pay -a and (pay 1 or pay 2)"))
 
     def test_a_line_of_60_calls(self):
         line = opening("times 2: at 30 pay a", 3)

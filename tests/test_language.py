@@ -135,6 +135,22 @@ class LanguageTest(unittest.TestCase):
                 if isinstance(node, ast.Call) and isinstance(node.func, ast.Attribute):
                     self.assertIn(node.func.attr, own + METHODS, (name, node.lineno))
 
+    def test_no_name_is_a_method_and_a_value(self):
+        methods, given = [], []
+        for name, tree in trees():
+            for node in ast.walk(tree):
+                if isinstance(node, ast.ClassDef):
+                    methods.extend(inner.name for inner in node.body if isinstance(inner, ast.FunctionDef))
+                elif isinstance(node, ast.Attribute) and isinstance(node.ctx, ast.Store):
+                    given.append(node.attr)
+        self.assertEqual(sorted(set(methods) & set(given)), [])
+
+    def test_names_at_the_top_are_given_plain_values(self):
+        for name, tree in trees():
+            for node in tree.body:
+                if isinstance(node, ast.Assign):
+                    ast.literal_eval(node.value)
+
     def test_imports_draw_from_the_own_files_in_no_circle(self):
         drawn = {}
         for name, tree in trees():
